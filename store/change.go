@@ -91,19 +91,19 @@ func (c *change) did(undo func()) {
 	}
 }
 
-// mark makes a mark, and answers how many there were ahead of it.
+// mark makes a mark, and answers how many there are, with it: so it is the first one that is 1.
 func (c *change) mark() int {
 	c.marks = append(c.marks, mark{len(c.undo), c.changed})
-	return len(c.marks) - 1
+	return len(c.marks)
 }
 
 // back takes back all that was done since mark m, the last of it first.
 func (c *change) back(m int) {
-	was := c.marks[m]
+	was := c.marks[m-1]
 	later := c.undo[was.done:]
 	for _, undo := range slices.Backward(later) {
 		undo()
 	}
 	clear(later) // they hold on to the bytes of pages
-	c.undo, c.marks, c.changed = c.undo[:was.done], c.marks[:m+1], was.changed
+	c.undo, c.marks, c.changed = c.undo[:was.done], c.marks[:m], was.changed
 }

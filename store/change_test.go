@@ -16,40 +16,40 @@ import (
 
 func TestMarksAreNumbered(t *testing.T) {
 	_, s := made(t, 6)
-	for m := range 4 {
+	for m := 1; m < 5; m++ {
 		marks(t, s, m)
 	}
 	takes(t, s, "a", 2)
-	marks(t, s, 4)
-	back(t, s, 2, api.OK)
-	marks(t, s, 3) // behind 0, 1 and 2, which are still there
-	back(t, s, 2, api.OK)
-	back(t, s, 2, api.OK) // again
-	back(t, s, 0, api.OK)
-	marks(t, s, 1)
+	marks(t, s, 5)
+	back(t, s, 3, api.OK)
+	marks(t, s, 4) // behind 1, 2 and 3, which are still there
+	back(t, s, 3, api.OK)
+	back(t, s, 3, api.OK) // again
+	back(t, s, 1, api.OK)
+	marks(t, s, 2)
 }
 
 func TestBackToNoMark(t *testing.T) {
 	_, s := made(t, 6)
-	wrong := []int{math.MinInt, -1 << 32, -2, -1, 1 << 32, math.MaxInt}
+	wrong := []int{math.MinInt, -1 << 32, -2, -1, 0, 1 << 32, math.MaxInt}
 	for n := range 4 { // so many marks there are
-		for _, m := range append(wrong, n, n+1, n+7) {
+		for _, m := range append(wrong, n+1, n+2, n+7) {
 			back(t, s, m, api.ErrArg)
 		}
-		marks(t, s, n)
+		marks(t, s, n+1)
 		takes(t, s, strconv.Itoa(n), 2+n)
 	}
 	looks(t, s, 6, 0, 0, held{2: "0", 3: "1", 4: "2", 5: "3"})
-	back(t, s, 1, api.OK)
+	back(t, s, 2, api.OK)
 	looks(t, s, 6, 0, 0, held{2: "0"})
-	for _, m := range append(wrong, 2, 3, 4) {
-		back(t, s, m, api.ErrArg) // 2 and 3 were taken away
+	for _, m := range append(wrong, 3, 4, 5) {
+		back(t, s, m, api.ErrArg) // 3 and 4 were taken away
 	}
 	looks(t, s, 6, 0, 0, held{2: "0"})
 	takes(t, s, "x", 3)
-	marks(t, s, 2) // another one, of the number of one that is gone
+	marks(t, s, 3) // another one, of the number of one that is gone
 	takes(t, s, "y", 4)
-	back(t, s, 2, api.OK)
+	back(t, s, 3, api.OK)
 	looks(t, s, 6, 0, 0, held{2: "0", 3: "x"})
 }
 
@@ -93,23 +93,23 @@ func TestBackToEachMark(t *testing.T) {
 			// The change, up to there, with a mark ahead of each step; then back from there to m.
 			s.Abort()
 			for i := range from {
-				marks(t, s, i)
+				marks(t, s, i+1)
 				steps[i]()
 			}
-			marks(t, s, from)
+			marks(t, s, from+1)
 			looks(t, s, 12, given[from], root[from], was[from])
-			back(t, s, m, api.OK)
+			back(t, s, m+1, api.OK)
 			looks(t, s, 12, given[m], root[m], was[m])
 			for i := m; i < len(steps); i++ { // and forth again
 				steps[i]()
 			}
 			last := len(was) - 1
 			looks(t, s, 12, given[last], root[last], was[last])
-			back(t, s, m, api.OK)
+			back(t, s, m+1, api.OK)
 			looks(t, s, 12, given[m], root[m], was[m])
 		}
 	}
-	back(t, s, 3, api.OK)
+	back(t, s, 4, api.OK)
 	takes(t, s, "e", 6)
 	commits(t, s)
 	pageOf(t, d, 6, 2, "e")
@@ -132,18 +132,18 @@ func TestCommitBehindBack(t *testing.T) {
 		func() { takes(t, s, "c", 4); gives(t, s, 4) },
 	} {
 		writesNothing(t, "Commit behind Back", d, func() {
-			marks(t, s, 0)
-			act()
 			marks(t, s, 1)
-			back(t, s, 0, api.OK)
+			act()
+			marks(t, s, 2)
+			back(t, s, 1, api.OK)
 			looks(t, s, 8, 0, 2, held{2: "a", 3: "b"})
 			commits(t, s)
 		})
 	}
 	takes(t, s, "c", 4)
-	marks(t, s, 0)
+	marks(t, s, 1)
 	gives(t, s, 4, 3)
-	back(t, s, 0, api.OK)
+	back(t, s, 1, api.OK)
 	commits(t, s)
 	pageOf(t, d, 4, 2, "c")
 	headOf(t, d, 0, 2, says(8, 2, 2, 3, 4))
@@ -153,12 +153,12 @@ func TestMarksEndWithTheChange(t *testing.T) {
 	for name, end := range map[string]func(s *store.Store){
 		"Commit":            func(s *store.Store) { commits(t, s) },
 		"Abort":             func(s *store.Store) { s.Abort() },
-		"Commit of nothing": func(s *store.Store) { back(t, s, 0, api.OK); commits(t, s) },
+		"Commit of nothing": func(s *store.Store) { back(t, s, 1, api.OK); commits(t, s) },
 	} {
 		_, s := made(t, 6)
-		marks(t, s, 0)
-		takes(t, s, "a", 2)
 		marks(t, s, 1)
+		takes(t, s, "a", 2)
+		marks(t, s, 2)
 		end(s)
 		left := s.Left()
 		for _, m := range []int{0, 1, 2, -1} {
@@ -167,7 +167,7 @@ func TestMarksEndWithTheChange(t *testing.T) {
 		if s.Left() != left {
 			t.Errorf("Back behind %s: %d pages are left, not %d", name, s.Left(), left)
 		}
-		marks(t, s, 0)
+		marks(t, s, 1)
 	}
 }
 
@@ -175,12 +175,12 @@ func TestMarksEndWithTheChange(t *testing.T) {
 func TestManyMarks(t *testing.T) {
 	_, s := made(t, 40)
 	for m := range 30 {
-		marks(t, s, m)
+		marks(t, s, m+1)
 		takes(t, s, strconv.Itoa(m), 2+m)
 		roots(t, s, 2+m)
 	}
 	for m := 29; m >= 0; m-- {
-		back(t, s, m, api.OK)
+		back(t, s, m+1, api.OK)
 		want := held{}
 		for i := range m {
 			want[2+i] = strconv.Itoa(i)
@@ -213,7 +213,7 @@ func TestCommitOfNothing(t *testing.T) {
 		s.Root()
 		s.Left()
 		s.Dead()
-		marks(t, s, 0)
+		marks(t, s, 1)
 		commits(t, s)
 	})
 	looks(t, open(t, d), 6, 0, 0, held{2: "a"})

@@ -122,17 +122,17 @@ func (m *model) mark() int {
 		return 0
 	}
 	m.marks = append(m.marks, m.now.copied())
-	return len(m.marks) - 1
+	return len(m.marks)
 }
 
 func (m *model) back(k int) api.Errno {
 	if m.refuses() != api.OK {
 		return api.ErrDead
 	}
-	if k < 0 || k >= len(m.marks) {
+	if k < 1 || k > len(m.marks) {
 		return api.ErrArg
 	}
-	m.now, m.marks = m.marks[k].copied(), m.marks[:k+1]
+	m.now, m.marks = m.marks[k-1].copied(), m.marks[:k]
 	return api.OK
 }
 

@@ -171,7 +171,7 @@ func TestDeadDisk(t *testing.T) {
 	takes(t, s, "a", 2)
 	roots(t, s, 2)
 	commits(t, s)
-	marks(t, s, 0)
+	marks(t, s, 1)
 	takes(t, s, "b", 3)
 	d.Kill()
 	if !s.Dead() {
@@ -183,14 +183,14 @@ func TestDeadDisk(t *testing.T) {
 		t.Error("its disk has power, no Commit met that it had none, and it is dead")
 	}
 	looks(t, s, 5, 0, 2, held{2: "a", 3: "b"})
-	back(t, s, 0, api.OK)
+	back(t, s, 1, api.OK)
 	looks(t, s, 5, 0, 2, held{2: "a"})
 	takes(t, s, "c", 3)
 	d.Kill()
 	s.Abort()
 	d.Restart(nil)
 	looks(t, s, 5, 0, 2, held{2: "a"})
-	back(t, s, 0, api.ErrArg)
+	back(t, s, 1, api.ErrArg)
 }
 
 // P5.2: Root, Left, Read.
@@ -270,10 +270,10 @@ func TestItsMemoryIsItsOwn(t *testing.T) {
 		}
 		looks(t, s, 6, 0, 0, held{2: "abcd", 3: "abcd"})
 	}
-	marks(t, s, 0)
+	marks(t, s, 1)
 	spoil(s) // taken in the change
 	gives(t, s, 2)
-	back(t, s, 0, api.OK)
+	back(t, s, 1, api.OK)
 	spoil(s)
 	commits(t, s)
 	spoil(s) // on the disk
@@ -499,7 +499,7 @@ func TestRefusedCallsAreNoChange(t *testing.T) {
 		answers(t, "Give", s.Give(2), api.ErrArg)
 		answers(t, "Give", s.Give(1), api.ErrArg)
 		answers(t, "SetRoot", s.SetRoot(4), api.ErrArg)
-		back(t, s, 0, api.ErrArg)
+		back(t, s, 1, api.ErrArg)
 		s.Read(9)
 		commits(t, s)
 	})
