@@ -21,7 +21,12 @@ func (w way) change(s *store.Store, i, old int, items ...item) {
 	for _, above := range slices.Backward(w[:len(w)-1]) {
 		n = c.hang(c.drop(above.node), above.at, n)
 	}
-	c.write(crown(n))
+	root, spare := crown(n), 0
+	// Of a tree that becomes deeper each change wants a page more than this one gives back: if none is left over for it, nothing can ever be deleted again.
+	if root != nil && root.level > w[0].level {
+		spare = 1
+	}
+	c.write(root, spare)
 }
 
 // drop is n, whose page is to be given back.
@@ -84,9 +89,9 @@ func crown(n node) *node {
 	return root
 }
 
-// write does the change, of which n is the new root: all of it, or, if there are too few pages, nothing.
-func (c *edit) write(n *node) {
-	if wanted(n) > c.s.Left() {
+// write does the change, of which n is the new root: all of it, or, if there are too few pages for it and so many spare ones, nothing.
+func (c *edit) write(n *node, spare int) {
+	if wanted(n)+spare > c.s.Left() {
 		throw(api.ErrFull)
 	}
 	must(c.s.SetRoot(c.take(n)))

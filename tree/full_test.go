@@ -210,3 +210,58 @@ func twenty(t *testing.T, k kind, order []int) {
 	}
 	sizes(t, s, 0, 0, 0)
 }
+
+// A store that only the tree's calls take pages of can be emptied again, however full it is: behind each Commit as many pages are free as the tree is deep, and so a pair can be deleted.
+func TestFullIsEmptiedAgain(t *testing.T) {
+	random := rand.New(rand.NewSource(68))
+	depths := map[int]bool{}
+	for _, size := range []int{4, 5, 6, 7, 8, 12, 24, 25, 26, 27, 28, 29, 30} {
+		for i := range 4 {
+			s, m := made(t, size), pairs{}
+			for refused := 0; refused < 10; {
+				k, v := long(strconv.Itoa(random.Intn(10000))+".", 256), long("v", random.Intn(2)*random.Intn(1+i*300))
+				switch e := tree.Put(s, []byte(k), []byte(v)); e {
+				case api.OK:
+					m[k] = v
+				case api.ErrFull:
+					refused++
+				default:
+					t.Fatal(e)
+				}
+				answers(t, "Commit", s.Commit(), api.OK)
+				_, _, deep, _ := tree.Size(s)
+				if depths[deep] = true; s.Left() < deep {
+					t.Fatalf("a disk of %d pages: the tree is %d deep, and %d pages are left", size, deep, s.Left())
+				}
+			}
+			m.empties(t, s)
+			if s.Left() != size-2 {
+				t.Fatalf("a disk of %d pages: %d are left", size, s.Left())
+			}
+		}
+	}
+	if !depths[1] || !depths[2] || !depths[3] {
+		t.Errorf("there were trees of these depths: %v", depths)
+	}
+}
+
+// empties deletes all pairs, each in a change of its own, and fails where none of those that are left can be deleted.
+func (m pairs) empties(t *testing.T, s *store.Store) {
+	t.Helper()
+	for len(m) > 0 {
+		ahead := len(m)
+		for _, p := range m.within("", "") {
+			switch was, e := tree.Delete(s, p.Key); {
+			case was && e == api.OK:
+				delete(m, string(p.Key))
+			case was || e != api.ErrFull:
+				t.Fatalf("Delete: %v, %v", was, e)
+			}
+			answers(t, "Commit", s.Commit(), api.OK)
+		}
+		if len(m) == ahead {
+			t.Fatalf("none of %d pairs can be deleted, and %d pages are left", ahead, s.Left())
+		}
+		m.looks(t, s)
+	}
+}
